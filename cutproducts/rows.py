@@ -115,20 +115,32 @@ def reduced(row, basis):
     return rest
 
 
+def take_in(row, basis):
+    """Put what the row has beyond sums of the basis into the basis; whether there is anything."""
+    rest = reduced(row, basis)
+    if rest == 0:
+        return False
+    basis[rest.bit_length()] = rest
+    return True
+
+
 def basis_of(rows):
     """Rows with the same sums as these, each under its highest bit, which no other has highest."""
     basis = {}
     for row in rows:
-        rest = reduced(row, basis)
-        if rest > 0:
-            basis[rest.bit_length()] = rest
+        take_in(row, basis)
     return basis
+
+
+def basis_of_nothing(shape, dimension):
+    """A basis of the dimension's cuts that are worth nothing."""
+    # Below dimension 0 there are no simplices, so that only the empty cut is left there, as asked.
+    return basis_of(rounds(shape, dimension - 1))
 
 
 def is_worth_nothing(shape, dimension, row):
     """Whether the cut is what's round some row of one dimension less."""
-    # Below dimension 0 there are no simplices, so that only the empty cut is left there, as asked.
-    return reduced(row, basis_of(rounds(shape, dimension - 1))) == 0
+    return reduced(row, basis_of_nothing(shape, dimension)) == 0
 
 
 def most_independent(shape, dimension):
@@ -137,5 +149,36 @@ def most_independent(shape, dimension):
     # Each independent row of one dimension more that's round something takes one off all rows to leave the
     # cuts, and each independent cut that's worth nothing takes one off these.
     no_cuts = len(basis_of(rounds(shape, dimension)))
-    worth_nothing = len(basis_of(rounds(shape, dimension - 1)))
+    worth_nothing = len(basis_of_nothing(shape, dimension))
     return many - no_cuts - worth_nothing
+
+
+def spanning_cuts(shape, dimension):
+    """Cuts of the dimension whose sums are all its cuts."""
+    alone = rounds(shape, dimension)
+    many = len(alone)
+    # The row round a simplex stands above the lowest bits, which tell the simplices: a sum with none but
+    # these has nothing round it.
+    told = [(alone[number] << many) | (1 << number) for number in range(many)]
+    return [row for row in basis_of(told).values() if row.bit_length() <= many]
+
+
+def independent_cuts(shape, dimension):
+    """As many independent cuts of the dimension as there can be."""
+    basis = basis_of_nothing(shape, dimension)
+    found = []
+    for cut in spanning_cuts(shape, dimension):
+        if take_in(cut, basis):
+            found.append(cut)
+    return found
+
+
+def crossings(row, other):
+    """In how many simplices the two rows cross."""
+    return len(numbers_of(row & other))
+
+
+def is_cycle(shape, dimension, row):
+    """Whether an even number of the row's simplices meet in each simplex of one dimension less."""
+    # The row round a simplex alone is that of all that have it as a face; below dimension 0 there are none.
+    return all([crossings(row, meeting) % 2 == 0 for meeting in rounds(shape, dimension - 1)])
